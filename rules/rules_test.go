@@ -538,9 +538,6 @@ func TestEveryDim(t *testing.T) {
 			}
 			for parents[i] = -1; parents[i] < i; parents[i]++ {
 				for signs[i] = -1; signs[i] <= 1; signs[i]++ {
-					if parents[i] < 0 && signs[i] < 0 {
-						continue
-					}
 					for refs[i] = -1; refs[i] < 1<<n; refs[i]++ {
 						each(i + 1)
 					}
