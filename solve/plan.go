@@ -72,6 +72,22 @@ func (p *Plan) Needs(n int) ([]int, error) {
 	return out, nil
 }
 
+// Users of each place, by its number: the numbers of the places that need its value, rising.
+func (p *Plan) Users() [][]int {
+	out := make([][]int, p.places)
+	for n := range p.places {
+		for _, k := range p.needs(n) {
+			out[k] = append(out[k], n)
+		}
+	}
+	return out
+}
+
+// Leaf tells whether the place of a number is one of leafs; none is, if there is no such place.
+func (p *Plan) Leaf(n int) bool {
+	return n >= 0 && n < p.places && p.by(n) == nobody
+}
+
 // Tell the value at the place of a number, of cells, by number, that are right at all that it needs; at a place of leafs it is the one that stands there: ErrRange: there is no such place; ErrShape: not as many cells as places.
 func (p *Plan) Tell(cells []api.Cell, n int) (api.Cell, error) {
 	if n < 0 || n >= p.places {

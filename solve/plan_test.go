@@ -48,6 +48,44 @@ func TestPlanNeeds(t *testing.T) {
 	needsAll(t, planOf(t, cube("x 0 a:-1:1: b:0:0: c:0:-1: d:1:0:")), []int{2}, nil, nil, nil)
 }
 
+// Who uses whom is who needs whom, the other way round; a place that needs none may be no place of leafs.
+func TestPlanUsersAndLeafs(t *testing.T) {
+	for _, c := range []struct {
+		o     api.Outline
+		users [][]int
+		leafs []int
+	}{
+		{shop("1", "0"), [][]int{{9}, {10}, {11}, {0, 9}, {1, 3, 10}, {2, 3, 11}, {0}, {1, 6}, {2, 6}, nil, nil, nil}, []int{4, 5, 7, 8}},
+		{shop("0", "1"), [][]int{nil, {0, 10}, {0, 11}, nil, {1, 3, 10}, {2, 3, 11}, nil, {1, 6}, {2, 6}, nil, {9}, {9}}, []int{4, 5, 7, 8}},
+		{cube("x 0 z:-1:1:y-b y:-1:1: b:-1:1:"), [][]int{nil, {0}, {0}}, []int{1, 2}},
+		{cube("x 0 a:-1:1: b:-1:1:a"), [][]int{{1}, nil}, []int{0}},
+		{cube("x 0 a:-1:1:b*b+b b:-1:1: c:-1:1:7"), [][]int{nil, {0}, nil}, []int{1}},
+		{cube("x 0 a:-1:1: b:0:0: c:0:-1: d:1:0:"), [][]int{nil, nil, {0}, nil}, []int{2, 3}},
+	} {
+		plan := planOf(t, c.o)
+		for range 2 {
+			got := plan.Users()
+			if !slices.EqualFunc(got, c.users, slices.Equal) {
+				t.Errorf("Users of %v = %v, want %v", c.o, got, c.users)
+			}
+			for n := range got {
+				_ = append(got[n], -7)
+				for i := range got[n] {
+					got[n][i] = -7
+				}
+			}
+		}
+		for n := -3; n < len(c.users)+3; n++ {
+			if got, want := plan.Leaf(n), slices.Contains(c.leafs, n); got != want {
+				t.Errorf("Leaf(%d) of %v = %v, want %v", n, c.o, got, want)
+			}
+		}
+		if plan.Leaf(math.MinInt) || plan.Leaf(math.MaxInt) {
+			t.Error("there is no such place")
+		}
+	}
+}
+
 // A cell is told of those that are handed in, right or not; at a place of leafs it stays.
 func TestPlanTell(t *testing.T) {
 	plan := planOf(t, shop("1", "0"))
