@@ -540,3 +540,19 @@ func TestNothingSharedOrWritten(t *testing.T) {
 	getOne(t, o, l, api.Place{2, 1}, api.Cell{Kind: api.Number, N: -5}, api.OK)
 	checkOne(t, o, l, api.OK)
 }
+
+// Fresh entries are the same, right or not, and share nothing.
+func TestFresh(t *testing.T) {
+	for _, l := range [][]api.Entry{nil, {}, {{}}, {at(7, 9), at(-1, 1, 1), {}}, {at(10, 1, 1), at(0, 1, 3), at(-5, 2, 1)}} {
+		l = spare(l)
+		was := behind(l)
+		a, b := input.Fresh(l), input.Fresh(l)
+		if !same(a, l) {
+			t.Errorf("Fresh(%v) = %v", l, a)
+		}
+		spoil(a)
+		if !same(b, l) || behind(l) != was {
+			t.Errorf("what is fresh is shared: %v, want %v, was %s", b, l, was)
+		}
+	}
+}

@@ -387,3 +387,25 @@ func TestNothingWritten(t *testing.T) {
 		t.Errorf("the outline was written into: %v", o)
 	}
 }
+
+// A fresh outline is the same, right or not, and neither changes with the other one.
+func TestFresh(t *testing.T) {
+	wrong := sized(2, 3)
+	wrong.Dims[1] = api.Dim{Name: "X", Solve: -1, Members: []api.Member{{Name: "Y", Parent: 7, Sign: 7, Formula: "+"}}}
+	for _, o := range []api.Outline{{}, {Dims: []api.Dim{}}, {Dims: make([]api.Dim, 5)}, sized(1), sized(3, 4), wrong} {
+		was := fmt.Sprint(o)
+		a, b := outline.Fresh(o), outline.Fresh(o)
+		if !reflect.DeepEqual(a, o) {
+			t.Errorf("Fresh(%v) = %v", o, a)
+		}
+		for i, d := range a.Dims {
+			for k := range d.Members {
+				d.Members[k] = api.Member{Name: "changed"}
+			}
+			a.Dims[i] = api.Dim{Name: "changed"}
+		}
+		if fmt.Sprint(o) != was || fmt.Sprint(b) != was {
+			t.Errorf("what is fresh is shared: %v, %v, want %s", o, b, was)
+		}
+	}
+}
