@@ -6,6 +6,7 @@ import (
 	"reflect"
 	"strings"
 	"testing"
+	"unsafe"
 
 	"tallyhall/api"
 	"tallyhall/outline"
@@ -406,6 +407,24 @@ func TestFresh(t *testing.T) {
 		}
 		if fmt.Sprint(o) != was || fmt.Sprint(b) != was {
 			t.Errorf("what is fresh is shared: %v, %v, want %s", o, b, was)
+		}
+	}
+	// Nor are the bytes of a text shared.
+	o, was := sized(2, 3), sized(2, 3)
+	o.Dims[1].Members[1].Formula, was.Dims[1].Members[1].Formula = "a+a", "a+a"
+	a := outline.Fresh(o)
+	if !reflect.DeepEqual(a, was) {
+		t.Errorf("Fresh(%v) = %v", was, a)
+	}
+	for i, d := range o.Dims {
+		if unsafe.StringData(a.Dims[i].Name) == unsafe.StringData(d.Name) {
+			t.Errorf("the name of dim %d is shared", i)
+		}
+		for k, m := range d.Members {
+			n := a.Dims[i].Members[k]
+			if unsafe.StringData(n.Name) == unsafe.StringData(m.Name) || m.Formula != "" && unsafe.StringData(n.Formula) == unsafe.StringData(m.Formula) {
+				t.Errorf("a text of member %d of dim %d is shared", k, i)
+			}
 		}
 	}
 }
